@@ -1,6 +1,7 @@
 package impl
 
 import (
+	"cmp"
 	"strconv"
 	"strings"
 )
@@ -66,14 +67,7 @@ func CompareRats(a Rat, b Rat) (int, bool) {
 	if !IsRat(a) || !IsRat(b) {
 		return 0, false
 	}
-	left, right := a.Num*b.Den, b.Num*a.Den
-	switch {
-	case left < right:
-		return -1, true
-	case left > right:
-		return 1, true
-	}
-	return 0, true
+	return orderOf(a, b), true
 }
 
 // FloorOf returns the greatest integer that is not greater than a.
@@ -142,6 +136,11 @@ func combineRats(a Rat, b Rat, operation func() (int, int)) (Rat, bool) {
 		return Rat{}, false
 	}
 	return reduceRat(num, den)
+}
+
+// orderOf compares two valid fractions as CompareRats does.
+func orderOf(a Rat, b Rat) int {
+	return cmp.Compare(a.Num*b.Den, b.Num*a.Den)
 }
 
 // reduceRat returns num / den in lowest terms, for a den that is not 0, and fails if this is too large.
