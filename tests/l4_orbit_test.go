@@ -666,11 +666,6 @@ func TestInvalidOrbitsHaveNoResults(t *testing.T) {
 
 // No function of orbits writes to its arguments or behind them, and no result is part of them.
 func TestOrbitsLeaveArgumentsAsTheyAre(t *testing.T) {
-	overwriteRats := func(list []impl.Rat) {
-		for i := range list[:cap(list)] {
-			list[:cap(list)][i] = rat(5, 5)
-		}
-	}
 	for _, f := range append(plainMaps(), invalidMaps()...) {
 		given := spare(f)
 		for _, x := range []impl.Rat{rat(0, 1), rat(1, 2), rat(2, 7), rat(1, most), {}} {

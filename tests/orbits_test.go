@@ -186,6 +186,12 @@ func spareRats(list []impl.Rat) []impl.Rat {
 	return all[:len(list):len(all)]
 }
 
+func overwriteRats(list []impl.Rat) {
+	for i := range list[:cap(list)] {
+		list[:cap(list)][i] = rat(5, 5)
+	}
+}
+
 func sameRatsWithSpare(given, list []impl.Rat) bool {
 	want := spareRats(list)
 	return slices.Equal(given, list) && slices.Equal(given[:cap(given)], want[:cap(want)])
